@@ -58,7 +58,7 @@ func (r reached) note(p pair, marked int, peer counts, says bool) {
 	case len(faults) > 1:
 		r[state+" several"]++
 	case !says:
-		r[state+" unsaid"]++
+		r[state+" quiet"]++
 	case marked == 0:
 		r[state+" none"]++
 	default:
@@ -74,7 +74,7 @@ func (r reached) all(t *testing.T) {
 	t.Helper()
 	edges := []string{"error", "failed", "lost all ten"}
 	for _, state := range []string{"testing ", "unknown ", "capable "} {
-		for _, edge := range []string{"unsaid", "ect1", "back0", "back2", "less", "above", "several", "none", "some", "congested"} {
+		for _, edge := range []string{"quiet", "unsaid", "ect1", "back0", "back2", "less", "above", "several", "none", "some", "congested"} {
 			edges = append(edges, state+edge)
 		}
 	}
